@@ -1,0 +1,1 @@
+"""Marshyear: a calendar of eleven months."""
