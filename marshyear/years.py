@@ -11,6 +11,16 @@ def is_long(year):
     return year % 5 == 0
 
 
+def long_years_ahead(year):
+    # From the year nought on, and with a minus back from it; counted at one stroke, since years may be huge.
+    return multiples_ahead(year, 5) - multiples_ahead(year, 30) + multiples_ahead(year, 210)
+
+
+def multiples_ahead(year, divisor):
+    # Rounded up and not down: nought is a multiple too, and the year itself does not count.
+    return -(-year // divisor)
+
+
 def days_of(year, month):
     days = MONTH_DAYS[month - 1]
     if month == MONTH_THAT_GROWS and is_long(year):

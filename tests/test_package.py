@@ -13,6 +13,8 @@ ALLOWED_NAMES = """
     ArithmeticError OverflowError RuntimeError NotImplementedError AttributeError StopIteration
 """.split()
 
+CHANGING_METHODS = "append clear extend insert pop remove reverse setdefault sort update".split()
+
 
 def package_files():
     return sorted(path for path in PACKAGE.rglob("*.py"))
@@ -25,7 +27,7 @@ def parsed(path):
 class Package(unittest.TestCase):
     def test_files_are_there(self):
         names = [path.name for path in package_files()]
-        for name in ("__init__.py", "errors.py", "years.py"):
+        for name in ("__init__.py", "errors.py", "years.py", "days.py", "moving.py", "notes.py"):
             self.assertIn(name, names)
 
     def test_nothing_but_modules_lies_in_it(self):
@@ -52,6 +54,15 @@ class Package(unittest.TestCase):
                 self.assertNotIsInstance(node, ast.Div, path)
                 if isinstance(node, ast.Constant):
                     self.assertNotIsInstance(node.value, (float, complex, bytes), path)
+
+    def test_nothing_handed_in_can_be_changed(self):
+        # Only names are given values, and no method that changes a value in place is called.
+        for path in package_files():
+            for node in ast.walk(parsed(path)):
+                if isinstance(node, (ast.Attribute, ast.Subscript)):
+                    self.assertIsInstance(node.ctx, ast.Load, (path, node.lineno))
+                if isinstance(node, ast.Attribute):
+                    self.assertNotIn(node.attr, CHANGING_METHODS, (path, node.lineno))
 
     def test_signs_and_sizes(self):
         for path in package_files():
